@@ -70,7 +70,7 @@ func fillsAndAligns(fills []string, f func(s impl.Spec)) {
 	}
 }
 
-// eachSpec calls f with valid specifications that have all combinations of marks.
+// eachSpec calls f with valid specifications of all marks in all combinations, with some fills, widths and precisions.
 func eachSpec(f func(s impl.Spec)) {
 	types := append(strings.Split(impl.Types, ""), "")
 	fillsAndAligns([]string{"", " ", "<", "=", "-", "+", "0", "#", ".", "9", "d"}, func(s impl.Spec) {
