@@ -87,6 +87,14 @@ func eachSpec(f func(s impl.Spec)) {
 	})
 }
 
+// eachText calls f with start and with all texts that have it at their beginning and at most size of these bytes behind it.
+func eachText(start string, bytes string, size int, f func(text string)) {
+	f(start)
+	for i := 0; i < len(bytes) && size > 0; i++ {
+		eachText(start+bytes[i:i+1], bytes, size-1, f)
+	}
+}
+
 // printableFills returns nothing and all bytes that can be a fill.
 func printableFills() []string {
 	fills := []string{""}
