@@ -31,14 +31,19 @@ func exactOf(d impl.Dec) *big.Int {
 	return n
 }
 
-// normalOf returns the normal form of a number of units: it tries all exponents from the greatest one down.
+// normalOf returns the normal form of a number of units.
 func normalOf(n *big.Int) (impl.Dec, bool) {
+	return normalFrom(n, baseExp)
+}
+
+// normalFrom returns the normal form of n times a power of ten: it tries all exponents from the greatest one down.
+func normalFrom(n *big.Int, power int) (impl.Dec, bool) {
 	if n.Sign() == 0 {
 		return impl.Dec{}, true
 	}
 	amount := new(big.Int).Abs(n)
 	for exp := impl.MaxExp; exp >= -impl.MaxExp; exp-- {
-		coef, rest := new(big.Int).QuoRem(amount, powerOfTen(exp-baseExp), new(big.Int))
+		coef, rest := new(big.Int).QuoRem(amount, powerOfTen(exp-power), new(big.Int))
 		if rest.Sign() == 0 && coef.Cmp(big.NewInt(impl.MaxCoef)) <= 0 {
 			return impl.Dec{Neg: n.Sign() < 0, Coef: int(coef.Int64()), Exp: exp}, true
 		}

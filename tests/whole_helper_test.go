@@ -84,16 +84,19 @@ func filledBy(text string, width int, fill string, align int) string {
 	return text
 }
 
+// signsOfOthers has the signs of numbers of at least 0.
+var signsOfOthers = map[int]string{impl.SiPlus: "+", impl.SiSpace: " "}
+
 // wholeText returns what FormatWhole is to give for a number in the limits, by a specification that suits.
 func wholeText(s impl.Spec, n int) string {
-	fill, align := impl.FillFor(s), impl.AlignFor(s, impl.VaInt)
+	align := impl.AlignFor(s, impl.VaInt)
 	if s.Type == "c" {
 		if n < 32 || n > 126 {
 			return ""
 		}
-		return filledBy(fmt.Sprintf("%c", n), s.Width, fill, align)
+		return filledBy(fmt.Sprintf("%c", n), s.Width, impl.FillFor(s), align)
 	}
-	head := map[int]string{impl.SiPlus: "+", impl.SiSpace: " "}[s.Sign]
+	head := signsOfOthers[s.Sign]
 	if n < 0 {
 		head, n = "-", -n
 	}
@@ -104,14 +107,20 @@ func wholeText(s impl.Spec, n int) string {
 			head += "0" + s.Type
 		}
 	}
-	digits, sep := fmt.Sprintf(verb, n), []string{"", ",", "_"}[s.Group]
+	return numberText(s, align, head, fmt.Sprintf(verb, n), "", size)
+}
+
+// numberText puts a number together: its head, its digits with groups of size, and the rest behind them, filled up by an alignment.
+func numberText(s impl.Spec, align int, head string, digits string, rest string, size int) string {
+	fill, sep := impl.FillFor(s), []string{"", ",", "_"}[s.Group]
+	body := groupedBy(digits, size, sep) + rest
 	if align != impl.AlInside {
-		return filledBy(head+groupedBy(digits, size, sep), s.Width, fill, align)
+		return filledBy(head+body, s.Width, fill, align)
 	}
 	if fill == "0" {
-		return head + widenedBy(digits, s.Width-len(head), size, sep)
+		return head + widenedBy(digits, s.Width-len(head)-len(rest), size, sep) + rest
 	}
-	return head + filledBy(groupedBy(digits, size, sep), s.Width-len(head), fill, impl.AlRight)
+	return head + filledBy(body, s.Width-len(head), fill, impl.AlRight)
 }
 
 // readTypes has what ReadWhole takes for each type and group: a sign, two bytes and digits.
